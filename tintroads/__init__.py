@@ -1,0 +1,1 @@
+"""Tintroads: colours led between devices by curves, tables and intents."""
