@@ -280,8 +280,7 @@ class TestJoined(unittest.TestCase):
     def test_no_curves(self):
         curve = Curve([(0, 0), (5, 5)])
         joined = JoinedCurve(curve, curve)
-        others = [thing for thing in odd_things() if not isinstance(thing, Curve)]
-        for wrong in others + [joined, [(0, 0), (5, 5)], 5, (0, 1)]:
+        for wrong in odd_things(Curve) + [joined, [(0, 0), (5, 5)], 5, (0, 1)]:
             for handed in ((wrong, curve), (curve, wrong), (wrong, wrong)):
                 with self.assertRaises(BadCurve):
                     JoinedCurve(*handed)

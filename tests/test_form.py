@@ -7,7 +7,7 @@ import re
 import unittest
 from pathlib import Path
 
-from tintroads import curves, shares, squares
+from tintroads import backs, curves, grids, intents, nearest, shares, squares
 
 PACKAGE = Path(__file__).resolve().parent.parent / "tintroads"
 FILES = sorted(PACKAGE.glob("*.py"))
@@ -38,6 +38,15 @@ SIGNATURES = {
     curves.JoinedCurve.corners: "(self)",
     squares.volume: "(square)", squares.led: "(square, colour)", squares.way_back: "(square)",
     squares.led_back: "(square, colour)", squares.together: "(square, other)",
+    grids.Grid: "(knots, table)", grids.Grid.knot: "(self, place)", grids.Grid.size: "(self)",
+    grids.Grid.worth: "(self, colour, *, way='four')", grids.Grid.widest: "(self)",
+    grids.sampled: "(knots, rows)", grids.is_grey: "(colour)",
+    backs.ways_back: "(grid, goal)", backs.is_reached: "(grid, goal)", backs.is_flat: "(grid)",
+    nearest.far_apart: "(one, other, *, weights=(1, 1, 1))",
+    nearest.nearest: "(grid, goal, *, levels=3, weights=(1, 1, 1))",
+    nearest.shown_worth: "(grid, goal, *, levels=3, weights=(1, 1, 1))",
+    intents.Ends: "(*, white, black=(0, 0, 0))", intents.led_worth: "(worth, intent, *, here, there)",
+    intents.is_between: "(worth, ends)",
 }
 
 

@@ -1,7 +1,7 @@
 """Curves: straight from point to point, and one behind another."""
 
 from tintroads.errors import BadColour, BadCurve, NoBack
-from tintroads.shares import is_less, is_share, is_whole_within, is_within, share
+from tintroads.shares import is_less, is_share, is_tuple_within, is_within, share
 
 FEWEST_POINTS = 2
 MOST_POINTS = 12
@@ -10,9 +10,7 @@ GREATEST = 1000
 
 def is_point(thing):
     """Whether a thing is a pair of a place and a value."""
-    if not isinstance(thing, tuple) or len(thing) != 2:
-        return False
-    return all([is_whole_within(number, 0, GREATEST) for number in thing])
+    return is_tuple_within(thing, 2, 0, GREATEST)
 
 
 def is_onward(low, high):

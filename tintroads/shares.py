@@ -13,6 +13,13 @@ def is_whole_within(thing, least, most):
     return is_whole(thing) and least <= thing <= most
 
 
+def is_tuple_within(thing, many, least, most):
+    """Whether a thing is a tuple of so many whole numbers from the least to the most."""
+    if not isinstance(thing, tuple) or len(thing) != many:
+        return False
+    return all([is_whole_within(number, least, most) for number in thing])
+
+
 def greatest_measure(one, other):
     """The greatest whole number by which both can be parted without a rest."""
     one, other = abs(one), abs(other)
@@ -86,3 +93,11 @@ def is_less(one, other):
 def is_within(one, least, most):
     """Whether a share lies from one whole number to another, both counted in."""
     return least * one[1] <= one[0] <= most * one[1]
+
+
+def over_one_below(numbers):
+    """The tops of several shares over one below that they have in common, and that below."""
+    below = 1
+    for number in numbers:
+        below *= number[1]
+    return [top * (below // part) for top, part in numbers], below
