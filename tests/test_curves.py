@@ -5,7 +5,7 @@ import unittest
 from fractions import Fraction
 from itertools import combinations_with_replacement
 
-from tests.things import NO_SHARES, as_share, odd_things, told
+from tests.things import NO_SHARES, as_share, odd_things, straight, told
 from tintroads.curves import Curve, JoinedCurve
 from tintroads.errors import BadColour, BadCurve, NoBack
 
@@ -20,14 +20,6 @@ def small_curves():
         for values in combinations_with_replacement((0, 1, 2, 4), len(places)):
             rows.append(list(zip(places, values)))
     return rows
-
-
-def straight(points, place):
-    """The value at a place of points between which it is straight, by Fractions."""
-    for (here, low), (there, high) in zip(points, points[1:]):
-        if here <= place <= there:
-            return low + Fraction(high - low) * (place - here) / (there - here)
-    raise AssertionError(place)
 
 
 def places_to(last):

@@ -7,7 +7,7 @@ import re
 import unittest
 from pathlib import Path
 
-from tintroads import backs, curves, grids, intents, nearest, shares, squares
+from tintroads import backs, curves, grids, inks, intents, links, nearest, profiles, shares, squares, texts
 
 PACKAGE = Path(__file__).resolve().parent.parent / "tintroads"
 FILES = sorted(PACKAGE.glob("*.py"))
@@ -47,6 +47,16 @@ SIGNATURES = {
     nearest.shown_worth: "(grid, goal, *, levels=3, weights=(1, 1, 1))",
     intents.Ends: "(*, white, black=(0, 0, 0))", intents.led_worth: "(worth, intent, *, here, there)",
     intents.is_between: "(worth, ends)",
+    profiles.SquareProfile: "(curves, square, *, ends)", profiles.SquareProfile.to_worth: "(self, colour)",
+    profiles.SquareProfile.from_worth: "(self, worth)", profiles.SquareProfile.slopes: "(self)",
+    profiles.GridProfile: "(curves, grid, *, ends)", profiles.GridProfile.to_worth: "(self, colour)",
+    profiles.GridProfile.from_worth: "(self, worth)", profiles.GridProfile.slopes: "(self)",
+    profiles.slope_sum: "(profile)",
+    links.stepwise: "(profile, intent, colour, *, there)", links.linked: "(profile, intent, *, there, knots=4)",
+    links.growth: "(profile, intent, *, there)", links.link_bound: "(profile, intent, *, there, knots=4)",
+    inks.with_black: "(inks, *, part=100)", inks.without_black: "(inks)", inks.all_ink: "(inks)",
+    inks.limited: "(inks, *, most=300)", inks.black_kept: "(inks, *, most=300)",
+    texts.grid_text: "(grid)", texts.grid_read: "(text)", texts.curve_text: "(curve)", texts.curve_read: "(text)",
 }
 
 

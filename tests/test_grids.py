@@ -6,7 +6,7 @@ from fractions import Fraction
 from itertools import permutations, product
 
 from tests.things import (
-    NO_COLOURS, Stubborn, as_colour, as_share, mingled, odd_things, rough_grid, table_of, told_colour,
+    NO_COLOURS, NO_KNOT_COUNTS, Stubborn, as_colour, as_share, mingled, odd_things, rough_grid, table_of, told_colour,
 )
 from tintroads.errors import BadColour, BadGrid, BadNumber
 from tintroads.grids import Grid, is_grey, sampled
@@ -15,7 +15,6 @@ from tintroads.grids import Grid, is_grey, sampled
 EIGHT = {(0, 0, 0): 0, (1, 0, 0): 100, (0, 1, 0): 200, (0, 0, 1): 400,
          (1, 1, 0): 350, (1, 0, 1): 700, (0, 1, 1): 800, (1, 1, 1): 1000}
 APART = {2: 60, 3: 30, 4: 20, 5: 15, 6: 12, 7: 10}
-NO_KNOT_COUNTS = [1, 8, 0, -1, -2, 9, 10 ** 6000, -(10 ** 6000), "3", (3, 1), (3,), [3], b"3", {3: 3}, (2, 2, 2)]
 NO_WORTHS = [
     5, 0, "abc", [0, 0, 0], [1, 2, 3], (0, 0), (0, 0, 0, 0), (5,), ((0, 0, 0),), ((0, 1), (0, 1), (0, 1)),
     (-1, 0, 0), (0, -1, 0), (0, 0, -1), (1001, 0, 0), (0, 1001, 0), (0, 0, 1001), (0, 0, 10 ** 6000),

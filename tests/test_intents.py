@@ -4,18 +4,15 @@ import unittest
 from fractions import Fraction
 from itertools import product
 
-from tests.things import NO_COLOURS, Stubborn, as_colour, odd_things, told_colour
+from tests.things import (
+    INTENTS, NO_COLOURS, NO_INTENTS, Stubborn, as_colour, led_by_rule, odd_things, told_colour,
+)
 from tintroads.errors import BadColour, BadIntent
 from tintroads.intents import Ends, is_between, led_worth
 
-INTENTS = ("same", "white", "squeezed", "clipped")
 HERE = {"white": (900, 800, 1000), "black": (100, 0, 50)}
 THERE = {"white": (500, 1000, 300), "black": (20, 200, 299)}
 BESIDE = Fraction(1, 10 ** 40)
-NO_INTENTS = [
-    "", "Same", "same ", " white", "WHITE", "squeeze", "clip", "clippedd", "s", "same\n", "white,clipped",
-    b"same", ("same",), ["white"], {"same": "same"}, {"clipped"}, 0, 1, 5, (0, 1), INTENTS, list(INTENTS),
-]
 NO_WORTHS = [
     5, "abc", b"abc", [900, 800, 700], (900, 800), (900, 800, 700, 600), (900,), ((900, 800, 700),),
     ((900, 1), (800, 1), (700, 1)), {0: 900, 1: 800, 2: 700}, {900, 800, 700}, (True, 800, 700), (900, True, 700),
@@ -27,17 +24,6 @@ NO_WORTHS = [
 def ends(told):
     """The Ends of a dict."""
     return Ends(**told)
-
-
-def led_by_rule(number, intent, here, there):
-    """One number led, by the words of the document, from a black and a white here to others there."""
-    if intent == "white":
-        return number * there[1] / here[1]
-    if intent == "squeezed":
-        return there[0] + (there[1] - there[0]) * (number - here[0]) / Fraction(here[1] - here[0])
-    if intent == "clipped":
-        return max(there[0], min(there[1], number))
-    return number
 
 
 def numbers_at(black, white):

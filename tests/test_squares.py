@@ -4,11 +4,10 @@ import copy
 import unittest
 from fractions import Fraction
 
-from tests.things import COLOUR, NO_COLOURS, odd_things, told
+from tests.things import COLOUR, NO_COLOURS, UNIT, no_squares, odd_things, told, with_number
 from tintroads.errors import BadColour, BadSquare, NoBack
 from tintroads.squares import led, led_back, together, volume, way_back
 
-UNIT = [[1000, 0, 0], [0, 1000, 0], [0, 0, 1000]]
 TURN = [[0, 1000, 0], [0, 0, 1000], [1000, 0, 0]]
 MIXED = [[412, 358, 180], [213, 715, 72], [19, 119, 950]]
 SIGNED = [[-4000, 4000, 1], [3999, -17, -2500], [0, 4000, 333]]
@@ -30,32 +29,6 @@ COLOURS = [
     ((60, 1), (59, 7), (1, 3)),
     ((-1000, 3), (2 ** 70 + 1, 2), (-1, 3 ** 80)),
 ]
-NO_SQUARES = [
-    0, 9, 1000, (0, 1), [], [[]], [[], [], []], UNIT[0], (1, 2, 3), COLOUR,
-    UNIT[:2], UNIT + [UNIT[0]], [UNIT], [row[:2] for row in UNIT], [row + [0] for row in UNIT],
-    [UNIT[0], UNIT[1], UNIT[2][:2]], [UNIT[0], UNIT[1], 5], [UNIT[0], UNIT[1], None], [UNIT[0], UNIT[1], "abc"],
-    [UNIT[0], UNIT[1], {0: 0, 1: 0, 2: 1000}], {0: UNIT[0], 1: UNIT[1], 2: UNIT[2]}, [UNIT, UNIT, UNIT],
-    ["abc", "abc", "abc"], [b"abc", b"abc", b"abc"], "abc", b"abc", [range(3), range(3), range(3)],
-    [[(0, 1)] * 3] * 3,
-]
-
-
-def with_number(number, row, place):
-    """The unit square with another number somewhere."""
-    square = copy.copy(UNIT)
-    square[row] = list(square[row])
-    square[row][place] = number
-    return square
-
-
-def no_squares():
-    """What is no square, with wrong numbers at every place too."""
-    wrong = odd_things() + NO_SQUARES
-    for row in range(3):
-        for place in range(3):
-            for number in (4001, -4001, 10 ** 6000, True, False, None, "5", (5, 1), [5]):
-                wrong.append(with_number(number, row, place))
-    return wrong
 
 
 def no_colours():

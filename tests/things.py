@@ -1,5 +1,6 @@
 """What several tests hand in: things of wrong kinds, and a measure to reckon by."""
 
+import copy
 from fractions import Fraction
 from itertools import product
 
@@ -7,6 +8,7 @@ from tintroads.curves import Curve, JoinedCurve
 from tintroads.errors import BadNumber
 from tintroads.grids import Grid
 from tintroads.intents import Ends
+from tintroads.profiles import GridProfile, SquareProfile
 from tintroads.shares import share
 
 
@@ -48,14 +50,17 @@ def odd_things(*but):
 def things_of_all_kinds():
     """Things of all kinds, objects of the program among them."""
     curve = Curve([(0, 0), (10, 10)])
+    grid = Grid(2, table_of(2, lambda a, b, c: (a, b, c)))
+    ends = Ends(white=(1, 2, 3))
+    curves = [Curve([(0, 0), (60, 60)])] * 3
     return [
         None, True, False, "", "0", "(0, 1)", "abc", b"", b"ab", bytearray(b"abc"),
         (), [], {}, set(), frozenset(), range(2), range(3), {0: 1}, {0: 0, 1: 1}, {0, 1, 2},
         (None,), (None, None), (None, None, None), ("a", "b", "c"), [None, None, None],
         (True, 1), (1, True), (False, True), (False, 1), ("0", 1), (0, "1"), (b"a", 1), ((0, 1), 1), (0, (1,)),
         endless_list(), deep_tuple(), (endless_list(), 1), curve, JoinedCurve(curve, curve),
-        Grid(2, table_of(2, lambda a, b, c: (a, b, c))), Ends(white=(1, 2, 3)), Grid, Ends,
-        Curve, share, len, int, BadNumber, BadNumber("x"), object(), Stubborn(), (Stubborn(), 1), (1, Stubborn()),
+        grid, ends, SquareProfile(curves, UNIT, ends=ends), GridProfile(curves, grid, ends=ends), Grid, Ends,
+        SquareProfile, GridProfile, Curve, share, len, int, BadNumber, BadNumber("x"), object(), Stubborn(), (Stubborn(), 1), (1, Stubborn()),
         iter([1, 2, 3]), (n for n in (1, 2)),
     ]
 
@@ -97,6 +102,72 @@ NO_COLOURS = [
     ((True, 1), (0, 1), (0, 1)), ((0, 1), (1, True), (0, 1)), ((0, 1), (0, 1), (False, True)),
     {0: (0, 1), 1: (0, 1), 2: (0, 1)}, "abc", b"abc", (COLOUR, COLOUR, COLOUR),
 ]
+
+UNIT = [[1000, 0, 0], [0, 1000, 0], [0, 0, 1000]]
+NO_SQUARES = [
+    0, 9, 1000, (0, 1), [], [[]], [[], [], []], UNIT[0], (1, 2, 3), COLOUR,
+    UNIT[:2], UNIT + [UNIT[0]], [UNIT], [row[:2] for row in UNIT], [row + [0] for row in UNIT],
+    [UNIT[0], UNIT[1], UNIT[2][:2]], [UNIT[0], UNIT[1], 5], [UNIT[0], UNIT[1], None], [UNIT[0], UNIT[1], "abc"],
+    [UNIT[0], UNIT[1], {0: 0, 1: 0, 2: 1000}], {0: UNIT[0], 1: UNIT[1], 2: UNIT[2]}, [UNIT, UNIT, UNIT],
+    ["abc", "abc", "abc"], [b"abc", b"abc", b"abc"], "abc", b"abc", [range(3), range(3), range(3)],
+    [[(0, 1)] * 3] * 3,
+]
+NO_KNOT_COUNTS = [1, 8, 0, -1, -2, 9, 10 ** 6000, -(10 ** 6000), "3", (3, 1), (3,), [3], b"3", {3: 3}, (2, 2, 2)]
+INTENTS = ("same", "white", "squeezed", "clipped")
+NO_INTENTS = [
+    "", "Same", "same ", " white", "WHITE", "squeeze", "clip", "clippedd", "s", "same\n", "white,clipped",
+    b"same", ("same",), ["white"], {"same": "same"}, {"clipped"}, 0, 1, 5, (0, 1), INTENTS, list(INTENTS),
+]
+
+
+def with_number(number, row, place):
+    """The unit square with another number somewhere."""
+    square = copy.copy(UNIT)
+    square[row] = list(square[row])
+    square[row][place] = number
+    return square
+
+
+def no_squares():
+    """What is no square, with wrong numbers at every place too."""
+    wrong = odd_things() + NO_SQUARES
+    for row in range(3):
+        for place in range(3):
+            for number in (4001, -4001, 10 ** 6000, True, False, None, "5", (5, 1), [5]):
+                wrong.append(with_number(number, row, place))
+    return wrong
+
+
+def no_ends():
+    """What are no Ends."""
+    ends = Ends(white=(900, 800, 1000))
+    others = [5, (900, 800, 1000), ((900, 800, 1000), (0, 0, 0)), {"white": (900, 800, 1000)}, [ends], (ends, ends)]
+    return odd_things(Ends) + others
+
+
+def no_profiles():
+    """What are no profiles."""
+    profile = SquareProfile([Curve([(0, 0), (60, 60)])] * 3, UNIT, ends=Ends(white=(900, 800, 1000)))
+    return odd_things(SquareProfile, GridProfile) + [5, UNIT, [profile], (profile, profile), {0: profile}]
+
+
+def straight(points, place):
+    """The value at a place of points between which it is straight, by Fractions."""
+    for (here, low), (there, high) in zip(points, points[1:]):
+        if here <= place <= there:
+            return low + Fraction(high - low) * (place - here) / (there - here)
+    raise AssertionError(place)
+
+
+def led_by_rule(number, intent, here, there):
+    """One number led, by the words of the document, from a black and a white here to others there."""
+    if intent == "white":
+        return number * there[1] / here[1]
+    if intent == "squeezed":
+        return there[0] + (there[1] - there[0]) * (number - here[0]) / Fraction(here[1] - here[0])
+    if intent == "clipped":
+        return max(there[0], min(there[1], number))
+    return number
 
 
 def told(thing):

@@ -1,7 +1,7 @@
 """Curves: straight from point to point, and one behind another."""
 
 from tintroads.errors import BadColour, BadCurve, NoBack
-from tintroads.shares import is_less, is_share, is_tuple_within, is_within, share
+from tintroads.shares import greatest_of, is_less, is_share, is_tuple_within, is_within, share
 
 FEWEST_POINTS = 2
 MOST_POINTS = 12
@@ -75,12 +75,9 @@ class Curve:
 
     def steepest(self):
         """The greatest rise of value for each step of place."""
-        best = share(0)
-        for low, high in zip(self.points, self.points[1:]):
-            slope = share(high[1] - low[1], high[0] - low[0])
-            if is_less(best, slope):
-                best = slope
-        return best
+        return greatest_of([
+            share(high[1] - low[1], high[0] - low[0]) for low, high in zip(self.points, self.points[1:])
+        ])
 
     def last(self):
         """The last place."""

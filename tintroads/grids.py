@@ -27,6 +27,16 @@ def is_worth(thing):
     return is_tuple_within(thing, 3, 0, GREATEST)
 
 
+def apart(knots):
+    """How far knots are apart, where there are so many each way."""
+    return REACH // (knots - 1)
+
+
+def held(number):
+    """A whole number held within those of a worth."""
+    return min(max(number, 0), GREATEST)
+
+
 def is_table(thing, knots):
     """Whether a thing is a dict of just all knots, each with a worth."""
     # Every key is a knot and no key stands twice, so none is missing if there are as many keys as knots.
@@ -43,6 +53,12 @@ def is_row(thing):
 def is_rows(thing):
     """Whether a thing is the list of rows of which a grid is sampled."""
     return isinstance(thing, list) and len(thing) == 3 and all([is_row(row) for row in thing])
+
+
+def refuse_no_knots(thing):
+    """Raise BadNumber of what is no number of knots."""
+    if not is_knots(thing):
+        raise BadNumber("a grid has 2 to 7 knots each way")
 
 
 def refuse_no_device_colour(thing):
@@ -113,7 +129,7 @@ class Grid:
 
     def size(self):
         """The pair of how many knots there are each way, and how far they are apart."""
-        return (self.knots, REACH // (self.knots - 1))
+        return (self.knots, apart(self.knots))
 
     def worth(self, colour, *, way="four"):
         """The worth of a device's colour, of shares."""
@@ -153,13 +169,12 @@ def refuse_no_grid(thing):
 
 def sampled_number(row, place):
     """The number that a row tells at a knot's place, held within 0 and 1000."""
-    return min(max(row[0] + whole_sum(row[1:], place), 0), GREATEST)
+    return held(row[0] + whole_sum(row[1:], place))
 
 
 def sampled(knots, rows):
     """The grid of three rows, one for each of a worth's numbers."""
-    if not is_knots(knots):
-        raise BadNumber("a grid has 2 to 7 knots each way")
+    refuse_no_knots(knots)
     if not is_rows(rows):
         raise BadGrid("a grid is sampled of a list of three tuples of four whole numbers from -1000 to 1000")
     return Grid(knots, {place: tuple([sampled_number(row, place) for row in rows]) for place in places_below(knots)})

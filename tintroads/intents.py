@@ -23,7 +23,17 @@ def spans(ends):
     return list(zip(ends.black, ends.white))
 
 
-# The leads of one number: here and there are pairs of a black's and a white's number.
+# The measures and leads of one number: here and there are pairs of a black's and a white's number.
+
+
+def white_measure(here, there):
+    """There's white by here's."""
+    return share(there[1], here[1])
+
+
+def squeezed_measure(here, there):
+    """What there's white is above its black by what here's is."""
+    return share(there[1] - there[0], here[1] - here[0])
 
 
 def led_same(number, here, there):
@@ -33,14 +43,13 @@ def led_same(number, here, there):
 
 def led_by_white(number, here, there):
     """The number by there's white by here's white."""
-    return multiplied(number, share(there[1], here[1]))
+    return multiplied(number, white_measure(here, there))
 
 
 def led_squeezed(number, here, there):
     """The number as far on from black to white there as it is here."""
     above = added(number, share(-here[0]))
-    measure = share(there[1] - there[0], here[1] - here[0])
-    return added(share(there[0]), multiplied(above, measure))
+    return added(share(there[0]), multiplied(above, squeezed_measure(here, there)))
 
 
 def led_clipped(number, here, there):

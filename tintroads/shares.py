@@ -90,6 +90,24 @@ def is_less(one, other):
     return one[0] * other[1] < other[0] * one[1]
 
 
+def sum_of(many):
+    """The sum of several shares."""
+    total = share(0)
+    for one in many:
+        total = added(total, one)
+    return total
+
+
+def less_by(one, other):
+    """What is left of a share without another one."""
+    return added(one, share(-other[0], other[1]))
+
+
+def over(one, other):
+    """A share over another one that is not nought."""
+    return share(one[0] * other[1], one[1] * other[0])
+
+
 def is_within(one, least, most):
     """Whether a share lies from one whole number to another, both counted in."""
     return least * one[1] <= one[0] <= most * one[1]
@@ -101,3 +119,15 @@ def over_one_below(numbers):
     for number in numbers:
         below *= number[1]
     return [top * (below // part) for top, part in numbers], below
+
+
+def least_of(many):
+    """The least of several shares."""
+    tops, below = over_one_below(many)
+    return share(min(tops), below)
+
+
+def greatest_of(many):
+    """The greatest of several shares."""
+    tops, below = over_one_below(many)
+    return share(max(tops), below)

@@ -1,7 +1,7 @@
 """Squares: three rows of three whole numbers over 1000, which lead colours."""
 
 from tintroads.errors import BadColour, BadSquare, NoBack
-from tintroads.shares import added, is_share, is_whole_within, multiplied, share
+from tintroads.shares import is_share, is_whole_within, multiplied, share, sum_of
 
 GREATEST = 4000
 UNIT = 1000
@@ -52,10 +52,7 @@ def whole_sum(row, other):
 
 def share_sum(row, colour):
     """The sum of a row's parts of a colour's numbers, all of them shares."""
-    total = share(0)
-    for part, number in zip(row, colour):
-        total = added(total, multiplied(part, number))
-    return total
+    return sum_of([multiplied(part, number) for part, number in zip(row, colour)])
 
 
 def volume(square):
