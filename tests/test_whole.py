@@ -20,7 +20,10 @@ COMMON_ERRORS = (BadNumber, BadProfile, BadIntent)
 
 
 def interface():
-    """Each call of the interface: its name, itself, what is handed in by place and by name, its refusals in order."""
+    """Each call of the interface: its name, itself, what is handed in by place and by name, its refusals in order.
+
+    All but is_grey, which is handed tuples of three alone and refuses nothing.
+    """
     curve = curves.Curve(POINTS)
     grid = grids.sampled(4, ROWS)
     ends = intents.Ends(white=WHITE)
@@ -41,6 +44,10 @@ def interface():
         ("Curve", curves.Curve, [list(POINTS)], {}, (BadCurve,)),
         ("Curve.value", curve.value, [(7, 2)], {}, (BadColour,)),
         ("Curve.back", curve.back, [(7, 2)], {}, (NoBack,)),
+        ("Curve.is_rising", curve.is_rising, [], {}, ()),
+        ("Curve.steepest", curve.steepest, [], {}, ()),
+        ("Curve.last", curve.last, [], {}, ()),
+        ("Curve.ends", curve.ends, [], {}, ()),
         ("JoinedCurve", curves.JoinedCurve, [curve, three[1]], {}, (BadCurve,)),
         ("JoinedCurve.value", joined.value, [(7, 2)], {}, (BadColour,)),
         ("JoinedCurve.corners", joined.corners, [], {}, ()),
@@ -52,6 +59,8 @@ def interface():
         ("Grid", grids.Grid, [4, table], {}, (BadGrid,)),
         ("Grid.knot", grid.knot, [(1, 2, 3)], {}, (BadColour,)),
         ("Grid.worth", grid.worth, [COLOUR], {"way": "eight"}, (BadColour,)),
+        ("Grid.size", grid.size, [], {}, ()),
+        ("Grid.widest", grid.widest, [], {}, ()),
         ("sampled", grids.sampled, [3, list(ROWS)], {}, (BadNumber, BadGrid)),
         ("ways_back", backs.ways_back, [grid, WORTH], {}, (BadGrid, BadColour)),
         ("is_reached", backs.is_reached, [grid, WORTH], {}, (BadGrid, BadColour)),
